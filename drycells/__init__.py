@@ -1,0 +1,1 @@
+"""Drycells: letters hidden in grey pictures, and exactly when none can be."""

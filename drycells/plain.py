@@ -1,0 +1,34 @@
+"""Private: what several files need and the interface does not list."""
+
+MOST_ROWS = 729
+
+
+def is_number(thing):
+    """Whether thing is an int that is no bool."""
+    return isinstance(thing, int) and not isinstance(thing, bool)
+
+
+def in_tuples(value):
+    """The value with a tuple for each list, at any depth."""
+    if isinstance(value, (list, tuple)):
+        return tuple([in_tuples(part) for part in value])
+    return value
+
+
+def power(base, times):
+    """The base multiplied by itself so many times; 1 for 0 times."""
+    total = 1
+    for _ in range(times):
+        total = total * base
+    return total
+
+
+def is_above_most(p, many):
+    """Whether p ** many is above the most ROWS that are listed."""
+    total = 1
+    for _ in range(many):
+        total = total * p
+        # Stops early: many may be so great that the power itself takes long.
+        if total > MOST_ROWS:
+            return True
+    return False

@@ -1,0 +1,72 @@
+"""The interface as the document lists it: for each file its functions, with the names of their arguments."""
+
+import importlib
+import re
+
+ERRORS = (
+    ("NoCell", LookupError, ("number",)),
+    ("NoWord", LookupError, ("word",)),
+    ("NothingDone", LookupError, ()),
+    ("Unfit", ValueError, ()),
+    ("NoPaper", ValueError, ()),
+    ("TooMany", ValueError, ()),
+    ("BadText", ValueError, ("place",)),
+    ("BadLine", ValueError, ("number",)),
+)
+
+LISTED = {
+    "digits": """is_prime(thing) is_digit(p, thing) is_row(p, thing) digit_sum(p, digits) contrary_digit(p, digit)
+        inverse_digit(p, digit) divided_digit(p, one, other) zero_row(many) unit_row(many, place)
+        row_sum(p, one, other) row_less(p, one, other) row_times(p, digit, row) row_product(p, one, other)
+        sum_of_multiples(p, many, rows, digits) marked_places(row) led_row(p, row) are_multiples(p, one, other)
+        row_number(p, row) row_at(p, many, number) figures_for(p, number) all_rows(p, many) led_rows(p, many)""",
+    "grids": """is_grid(p, many, thing) is_stepped(p, many, thing) stepped_grid(p, many, rows)
+        lead_places(p, many, rows) grid_rank(p, many, rows) same_span(p, many, one, other)
+        is_spanned(p, many, rows, row) multiples_for(p, many, rows, row) is_multiples(p, many, rows, row, thing)
+        ways_count(p, many, rows, row) bar_row(p, many, rows, row) is_bar_row(p, many, rows, row, thing)
+        unmarked_rows(p, many, rows) relations(p, many, rows) turned_grid(p, many, rows) fresh_rows(p, many, rows)
+        span_count(p, many, rows) spanned_rows(p, many, rows) common_span(p, many, one, other)""",
+    "pictures": """is_picture(thing) shape_of(picture) like_shape(one, other) cells_in(picture) greys(picture)
+        picture_of(top, wide, tones) grey_at(picture, cell) with_grey(picture, cell, grey) place_of(picture, cell)
+        cell_at(picture, row, column) neighbours(picture, cell) edge_cells(picture) touched_cells(one, other)
+        rests(picture, p) cells_grey(picture, low, high) turned(picture) mirrored(picture) cells_turned(picture)
+        cells_mirrored(picture) cut_out(picture, row, column, high, wide) cells_cut(picture, row, column, high, wide)
+        put_over(picture, part, row, column)""",
+    "prices": """is_prices(picture, thing) even_prices(picture, weight) roughness(picture, cell)
+        rough_prices(picture, most) barring(prices, lot) weighing(prices, lot, weight) free_cells(prices)
+        barred_cells(prices) both_prices(one, other) barred_touched(one, other, prices) cost(one, other, prices)
+        within(one, other, prices, budget) greys_for(picture, p, rest) cheapest_grey(picture, cell, p, rest)
+        rest_prices(picture, prices, cell, p) with_rests(picture, p, digits)
+        cost_of_rests(picture, prices, p, digits)""",
+    "keys": """is_key(thing) is_band(thing) is_message(key, thing) is_word(key, thing) band_key(band)
+        band_for(key, length) key_rows(key) key_by_rows(p, size, rows) stacked(one, other) unstacked(key, many)
+        without_cells(key, lot) walked(key, order) walked_back(key, order) led_key(key, rows)
+        marked_cells(key, word) alike_keys(one, other) parting_picture(one, other)
+        is_parting_picture(one, other, thing) tells(one, other) led_by(one, other) untold(one, other)
+        is_untold(one, other, thing)""",
+    "reading": """reading(picture, key) lack(picture, key, message) reading_of_rests(key, digits)
+        part_reading(picture, key, lot) readings_along(picture, key) reading_behind(key, row, touches)
+        same_reading(near, far, key) read_cells(key) digit_cells(key, place) can_be_read(key, message)
+        rests_for(key, message) silent_word(key, message) is_silent_word(key, message, thing) rests_alike(key)
+        how_many_read(key, top, message) read_counts(key, top)""",
+}
+
+# In this order a file draws from those ahead of it alone; plain is private.
+ORDER = ("plain", "errors") + tuple(LISTED)
+
+
+def listed():
+    """For each function of the interface the pair (its file, the names of its arguments)."""
+    return {
+        name: (file, tuple(names.split(", ")))
+        for file, text in LISTED.items()
+        for name, names in re.findall(r"(\w+)\(([^)]*)\)", text)
+    }
+
+
+def everything():
+    """All functions and errors of the interface by their names."""
+    modules = {file: importlib.import_module(f"drycells.{file}") for file in ORDER}
+    found = {name: getattr(modules[file], name) for name, (file, _) in listed().items()}
+    found.update({name: getattr(modules["errors"], name) for name, _, _ in ERRORS})
+    return found
