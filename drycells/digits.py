@@ -1,7 +1,7 @@
 """DIGITS of a PRIME, and ROWS of them."""
 
 from drycells.errors import TooMany, Unfit
-from drycells.plain import in_tuples, is_above_most, is_number, power
+from drycells.plain import is_above_most, is_number, power
 
 PRIMES = (2, 3, 5)
 
@@ -109,7 +109,7 @@ def led_row(p, row):
 def are_multiples(p, one, other):
     """Whether other is one multiplied by a DIGIT that is not 0; Unfit() if they are not of one length."""
     _check_lengths(one, other)
-    aim = in_tuples(other)
+    aim = tuple(other)
     return any(row_times(p, digit, one) == aim for digit in range(1, p))
 
 

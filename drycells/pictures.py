@@ -171,9 +171,7 @@ def cut_out(picture, row, column, high, wide):
 
 def cells_cut(picture, row, column, high, wide):
     """The tuple of the CELLS cut out; Unfit() if there are none, or not all of them are in picture."""
-    if high < 1 or wide < 1:
-        raise Unfit()
-    if not _has_place(picture, row, column) or not _has_place(picture, row + high - 1, column + wide - 1):
+    if high < 1 or wide < 1 or not _has_place(picture, row + high - 1, column + wide - 1):
         raise Unfit()
     first = cell_at(picture, row, column)
     length = shape_of(picture)[2]

@@ -1,10 +1,8 @@
 """PRICES: which CELLS are barred, and what it costs to touch the others."""
 
 from drycells.digits import is_row
-from drycells.errors import NoCell, Unfit
-from drycells.pictures import (
-    cells_in, grey_at, greys, like_shape, neighbours, picture_of, rests, shape_of, touched_cells,
-)
+from drycells.errors import Unfit
+from drycells.pictures import cells_in, grey_at, greys, neighbours, picture_of, rests, shape_of, touched_cells
 from drycells.plain import is_number
 
 

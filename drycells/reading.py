@@ -3,11 +3,11 @@
 from drycells.digits import (
     all_rows, is_row, row_less, row_number, row_product, row_sum, row_times, sum_of_multiples, zero_row,
 )
-from drycells.errors import NoCell, TooMany, Unfit
+from drycells.errors import NoCell, Unfit
 from drycells.grids import bar_row, grid_rank, is_spanned, multiples_for
 from drycells.keys import is_message, is_word
 from drycells.pictures import cells_in, rests
-from drycells.plain import is_above_most, power
+from drycells.plain import power
 
 
 def _check_picture(picture, key):
@@ -28,7 +28,6 @@ def reading(picture, key):
 
 def lack(picture, key, message):
     """The ROW that added to the READING gives message; Unfit() if they do not go together."""
-    _check_picture(picture, key)
     _check_message(key, message)
     return row_less(key[0], message, reading(picture, key))
 
@@ -133,8 +132,6 @@ def how_many_read(key, top, message):
 def read_counts(key, top):
     """The tuple of these numbers for all MESSAGES, ascending; TooMany() if p ** many is above 729."""
     p, many, columns = key
-    if is_above_most(p, many):
-        raise TooMany()
     messages = all_rows(p, many)
     # So many GREYS from 0 to top have each REST.
     each = [(top - rest) // p + 1 for rest in range(p)]

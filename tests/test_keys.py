@@ -19,10 +19,10 @@ EMPTY = (2, 0, ((), (), ()))
 PAIRS = ("alike_keys", "parting_picture", "stacked", "tells", "led_by", "untold")
 
 
-def small_keys():
-    """All small KEYS of each PRIME, with two columns."""
+def small_keys(size):
+    """All small KEYS of each PRIME, with so many columns."""
     for p, many in ((2, 0), (2, 1), (2, 2), (3, 0), (3, 1), (5, 1)):
-        yield from brute.keys_of(p, many, 2)
+        yield from brute.keys_of(p, many, size)
 
 
 def more_keys():
@@ -194,20 +194,23 @@ class CallsTest(unittest.TestCase):
 
 class GuaranteesTest(unittest.TestCase):
     def test_keys_are_alike_or_parted(self):
-        pictures = list(brute.pictures_of(4, 1, 2))
-        told_of = {key: [brute.read(key, picture) for picture in pictures] for key in small_keys()}
-        for one, other in itertools.product(told_of, repeat=2):
-            alike = told_of[one] == told_of[other]
-            self.assertIs(alike_keys(one, other), alike)
-            told = outcome("parting_picture", (one, other))
-            if alike:
-                self.assertEqual(told, NO_PAPER)
-            else:
-                self.assertTrue(is_parting_picture(one, other, told))
-                self.assertNotEqual(brute.read(one, told), brute.read(other, told))
+        for size in (1, 2):
+            pictures = list(brute.pictures_of(4, 1, size))
+            told_of = {key: [brute.read(key, picture) for picture in pictures] for key in small_keys(size)}
+            for one, other in itertools.product(told_of, repeat=2):
+                self.check_alike_or_parted(one, other, told_of[one] == told_of[other])
+
+    def check_alike_or_parted(self, one, other, alike):
+        self.assertIs(alike_keys(one, other), alike)
+        told = outcome("parting_picture", (one, other))
+        if alike:
+            self.assertEqual(told, NO_PAPER)
+        else:
+            self.assertTrue(is_parting_picture(one, other, told))
+            self.assertNotEqual(brute.read(one, told), brute.read(other, told))
 
     def test_is_parting_picture_over_all_pictures(self):
-        keys = list(small_keys())[::7]
+        keys = list(small_keys(2))[::7]
         for one, other in itertools.product(keys, repeat=2):
             for picture in brute.pictures_of(4, 2, 1):
                 parts = brute.read(one, picture) != brute.read(other, picture)
