@@ -1,10 +1,10 @@
 """KEYS and BANDS: how columns lead from RESTS to MESSAGES, and which KEY tells another one."""
 
 from drycells.digits import is_prime, is_row, row_product, sum_of_multiples
-from drycells.errors import NoPaper, Unfit
+from drycells.errors import NoCell, NoPaper, TooMany, Unfit
 from drycells.grids import bar_row, is_grid, is_spanned, multiples_for, turned_grid
 from drycells.pictures import cells_in, is_picture, like_shape, picture_of, rests
-from drycells.plain import in_tuples, is_number
+from drycells.plain import in_tuples, is_above_most, is_number
 
 # A PICTURE with this top has each REST of each PRIME.
 PAPER_TOP = 4
@@ -38,6 +38,26 @@ def is_message(key, thing):
 def is_word(key, thing):
     """Whether thing is a WORD of key."""
     return is_message(key, thing) and any(thing)
+
+
+def is_lot(key, thing):
+    """Whether thing is a LOT of CELLS of key."""
+    if not isinstance(thing, tuple) or not all(is_number(cell) and 0 <= cell < len(key[2]) for cell in thing):
+        return False
+    return thing == tuple(sorted(set(thing)))
+
+
+def check_small(key):
+    """TooMany() if key is not small: if there are more than 729 MESSAGES of it."""
+    if is_above_most(key[0], key[1]):
+        raise TooMany()
+
+
+def check_cells(key, lot):
+    """NoCell(number) for the first of lot that is no CELL of key."""
+    for cell in lot:
+        if not 0 <= cell < len(key[2]):
+            raise NoCell(cell)
 
 
 def band_key(band):
@@ -81,7 +101,8 @@ def _check_columns(one, other):
         raise Unfit()
 
 
-def _check_columns_and_primes(one, other):
+def check_columns_and_primes(one, other):
+    """Unfit() if both have not as many columns, and one p."""
     _check_columns(one, other)
     if one[0] != other[0]:
         raise Unfit()
@@ -89,7 +110,7 @@ def _check_columns_and_primes(one, other):
 
 def stacked(one, other):
     """The STACKED KEY of both; Unfit() if they have not as many columns, and one p."""
-    _check_columns_and_primes(one, other)
+    check_columns_and_primes(one, other)
     columns = [tuple(left) + tuple(right) for left, right in zip(one[2], other[2])]
     return (one[0], one[1] + other[1], tuple(columns))
 
@@ -176,7 +197,7 @@ def is_parting_picture(one, other, thing):
 
 def tells(one, other):
     """Whether one tells other; Unfit() if they have not as many columns, and one p."""
-    _check_columns_and_primes(one, other)
+    check_columns_and_primes(one, other)
     return _untold_row(one, other) is None
 
 
@@ -191,14 +212,14 @@ def _untold_row(one, other):
 
 def led_by(one, other):
     """Rows that lead one to other; Unfit() as tells; NoPaper() if there are none."""
-    _check_columns_and_primes(one, other)
+    check_columns_and_primes(one, other)
     told = key_rows(one)
     return tuple([multiples_for(one[0], len(row), told, row) for row in key_rows(other)])
 
 
 def untold(one, other):
     """Two PICTURES with one READING by one, unlike ones by other; Unfit() as tells; NoPaper() if there are none."""
-    _check_columns_and_primes(one, other)
+    check_columns_and_primes(one, other)
     row = _untold_row(one, other)
     if row is None:
         raise NoPaper()
@@ -210,7 +231,7 @@ def untold(one, other):
 
 def is_untold(one, other, thing):
     """Whether thing is two PICTURES as untold tells them; Unfit() as tells."""
-    _check_columns_and_primes(one, other)
+    check_columns_and_primes(one, other)
     if not isinstance(thing, tuple) or len(thing) != 2 or not all(is_picture(part) for part in thing):
         return False
     near, far = thing

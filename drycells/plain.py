@@ -32,3 +32,8 @@ def is_above_most(p, many):
         if total > MOST_ROWS:
             return True
     return False
+
+
+def is_part(one, other):
+    """Whether all that is in one is in other."""
+    return all(own in other for own in one)

@@ -15,7 +15,8 @@ def _is_price(thing):
     return thing is None or is_number(thing) and thing >= 0
 
 
-def _check_prices(picture, prices):
+def check_prices(picture, prices):
+    """Unfit() if prices are not as many as the CELLS of picture."""
     if len(prices) != cells_in(picture):
         raise Unfit()
 
@@ -77,7 +78,7 @@ def _both_prices_of(left, right):
 
 def barred_touched(one, other, prices):
     """The set of the barred CELLS that are touched; Unfit() if prices do not fit, or shapes are unlike."""
-    _check_prices(one, prices)
+    check_prices(one, prices)
     return tuple([cell for cell in touched_cells(one, other) if prices[cell] is None])
 
 
@@ -111,7 +112,7 @@ def _nearest(own, choice):
 
 def rest_prices(picture, prices, cell, p):
     """The COST of the CHEAPEST GREY for each REST, None if cell may not have it; Unfit(), then NoCell(cell)."""
-    _check_prices(picture, prices)
+    check_prices(picture, prices)
     own = grey_at(picture, cell)
     return tuple([_rest_price(picture, own, prices[cell], p, rest) for rest in range(p)])
 
@@ -140,7 +141,7 @@ def _check_digits(picture, p, digits):
 
 def cost_of_rests(picture, prices, p, digits):
     """The COST of with_rests; None if a barred CELL has another REST than its DIGIT; Unfit() if they do not fit."""
-    _check_prices(picture, prices)
+    check_prices(picture, prices)
     _check_digits(picture, p, digits)
     own = rests(picture, p)
     if any(own[cell] != digits[cell] for cell in barred_cells(prices)):

@@ -3,32 +3,34 @@
 from drycells.digits import (
     all_rows, is_row, row_less, row_number, row_product, row_sum, row_times, sum_of_multiples, zero_row,
 )
-from drycells.errors import NoCell, Unfit
+from drycells.errors import Unfit
 from drycells.grids import bar_row, grid_rank, is_spanned, multiples_for
-from drycells.keys import is_message, is_word
+from drycells.keys import check_cells, is_message, is_word
 from drycells.pictures import cells_in, rests
 from drycells.plain import power
 
 
-def _check_picture(picture, key):
+def check_picture(picture, key):
+    """Unfit() if picture has not as many CELLS as key has columns."""
     if cells_in(picture) != len(key[2]):
         raise Unfit()
 
 
-def _check_message(key, message):
+def check_message(key, message):
+    """Unfit() if message is none of key."""
     if not is_message(key, tuple(message)):
         raise Unfit()
 
 
 def reading(picture, key):
     """The READING of picture by key; Unfit() if there are not as many columns as CELLS."""
-    _check_picture(picture, key)
+    check_picture(picture, key)
     return reading_of_rests(key, rests(picture, key[0]))
 
 
 def lack(picture, key, message):
     """The ROW that added to the READING gives message; Unfit() if they do not go together."""
-    _check_message(key, message)
+    check_message(key, message)
     return row_less(key[0], message, reading(picture, key))
 
 
@@ -42,14 +44,14 @@ def reading_of_rests(key, digits):
 
 def part_reading(picture, key, lot):
     """The sum of RESTS times columns over the CELLS of lot alone; Unfit() as reading."""
-    _check_picture(picture, key)
+    check_picture(picture, key)
     own = rests(picture, key[0])
     return reading_of_rests(key, [digit if cell in lot else 0 for cell, digit in enumerate(own)])
 
 
 def readings_along(picture, key):
     """The list of the part readings over the first 0, 1, .. CELLS, to all; Unfit() as reading."""
-    _check_picture(picture, key)
+    check_picture(picture, key)
     p, many, columns = key
     along = [zero_row(many)]
     for digit, column in zip(rests(picture, p), columns):
@@ -59,12 +61,11 @@ def readings_along(picture, key):
 
 def reading_behind(key, row, touches):
     """The READING, row ahead, behind these touches; Unfit() if row is no MESSAGE; NoCell of the first without one."""
-    _check_message(key, row)
+    check_message(key, row)
     p, _, columns = key
     behind = tuple(row)
     for cell, old, new in touches:
-        if not 0 <= cell < len(columns):
-            raise NoCell(cell)
+        check_cells(key, (cell,))
         behind = row_sum(p, behind, row_times(p, new - old, columns[cell]))
     return behind
 
@@ -89,28 +90,28 @@ def digit_cells(key, place):
 
 def can_be_read(key, message):
     """Whether some PICTURE reads as message; Unfit() if that is none of key."""
-    _check_message(key, message)
+    check_message(key, message)
     p, many, columns = key
     return is_spanned(p, many, columns, message)
 
 
 def rests_for(key, message):
     """The RESTS of a PICTURE that reads as message; Unfit() as can_be_read; NoPaper() if none does."""
-    _check_message(key, message)
+    check_message(key, message)
     p, many, columns = key
     return multiples_for(p, many, columns, message)
 
 
 def silent_word(key, message):
     """A WORD as is_silent_word has it; Unfit() as can_be_read; NoPaper() if there is none."""
-    _check_message(key, message)
+    check_message(key, message)
     p, many, columns = key
     return bar_row(p, many, columns, message)
 
 
 def is_silent_word(key, message, thing):
     """Whether thing is a WORD that marks no CELL, its product with message not 0; Unfit() as can_be_read."""
-    _check_message(key, message)
+    check_message(key, message)
     p, _, columns = key
     if not is_word(key, thing) or row_product(p, thing, message) == 0:
         return False
@@ -125,7 +126,7 @@ def rests_alike(key):
 
 def how_many_read(key, top, message):
     """How many PICTURES of one shape, with this top, read as message; Unfit() as can_be_read, then TooMany()."""
-    _check_message(key, message)
+    check_message(key, message)
     return read_counts(key, top)[row_number(key[0], message)]
 
 

@@ -145,12 +145,15 @@ def spoilt(value):
         yield from (value == 1, bool(value), str(value), (value,), [value], -1 - value)
 
 
-def check_things(case, name, args, right, wrong=(), fine=()):
-    """Checks that the function tells True of right, False of wrong, of what is spoilt and of all junk but fine."""
+def check_things(case, name, args, right, wrong=(), fine=(), judge=None):
+    """Checks that the function tells True of right, False of wrong, of what is spoilt and of all junk but fine.
+
+    Where what is spoilt may still be right, judge tells whether it is.
+    """
     for thing in right:
         check_call(case, name, args + (thing,), True)
         for other in spoilt(thing):
-            check_told(case, name, args, other, False)
+            check_told(case, name, args, other, judge is not None and judge(other))
     for thing in wrong:
         check_call(case, name, args + (thing,), False)
     for thing in JUNK:

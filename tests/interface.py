@@ -49,6 +49,49 @@ LISTED = {
         same_reading(near, far, key) read_cells(key) digit_cells(key, place) can_be_read(key, message)
         rests_for(key, message) silent_word(key, message) is_silent_word(key, message, thing) rests_alike(key)
         how_many_read(key, top, message) read_counts(key, top)""",
+    "hiding": """can_hide(picture, prices, key, message) hiding_rests(picture, prices, key, message)
+        is_hiding_rests(picture, prices, key, message, thing) hiding_picture(picture, prices, key, message)
+        is_hiding(picture, prices, key, message, thing) word_against(picture, prices, key, message)
+        is_bar(picture, prices, key, message, thing) how_many_rests(picture, prices, key, message)
+        rests_there(picture, prices, key, message, cell) kept_always(picture, prices, key, message)
+        moved_always(picture, prices, key, message) how_many_hidden(prices, key) always_hides(prices, key)
+        least_freed(picture, prices, key, message) least_to_bar(picture, prices, key, message)""",
+    "rooms": """open_rows(key, place) widths(key) widest(key) closing_rows(key, cell) idle_rows(key)
+        rooms_at(key, place) room_behind(key, message, cell, room, rest) step_price(picture, prices, key, cell, rest)
+        steps_at(picture, prices, key, message, cell) is_way(key, message, thing) rooms_along(key, message, way)
+        ways_on(key, message, place, room) how_many_ways(key, message) way_price(picture, prices, key, way)""",
+    "cheapest": """least_slope(picture, prices, key, message) is_right_slope(picture, prices, key, message, thing)
+        end_of(slope) least_cost(picture, prices, key, message) cheapest_way(picture, prices, key, message)
+        cheapest(picture, prices, key, message) is_cheapest(picture, prices, key, message, thing)
+        cheapest_paper(picture, prices, key, message) is_cheapest_paper(picture, prices, key, message, thing)
+        case_of(picture, prices, key, message) is_case(picture, prices, key, message, thing)
+        ways_within(picture, prices, key, message, most) how_many_cheapest(picture, prices, key, message)
+        next_cost(picture, prices, key, message) cost_with(picture, prices, key, message, cell, weight)
+        may_touch(picture, prices, key, message) must_touch(picture, prices, key, message)""",
+    "most": """columns_needed(key, row) needs_counted(key) most_touches(key) mean_touches(key) worst_rows(key)
+        few_columns(key, row) is_few_columns(key, row, thing) far_paper(key, row)
+        is_far_paper(key, row, number, thing) touches_needed(picture, key, message)
+        touched_least(picture, key, message) is_touched_least(picture, key, message, thing)
+        worst_messages(picture, key) counted_bound(prime, many, cells)""",
+    "anylots": """marks_counted(key) shortest_words(key) most_barred(key) bars(key, lot) barring_word(key, lot)
+        is_barring_word(key, lot, thing) all_paper(key, lot) is_all_paper(key, lot, thing) left_many(key, lot)
+        left_messages(picture, key, lot) left_words(key, lot) bare_lots(key) least_lots(key) any_paper(key, number)
+        is_any_paper(key, number, thing) worst_lot(key, number) is_worst_lot(key, number, thing)""",
+    "guards": """is_guarded(picture, guard) is_forging(key, thing) sums_of(key, guard, forging)
+        forged_picture(picture, p, forging) forging_between(one, other, p) least_false(key, guard)
+        false_forging(key, guard) is_false_forging(key, guard, most, thing) mends(key, guard, most)
+        most_mended(key, guard) most_told(key, guard) messages_behind(key, guard, picture, most)
+        mended(key, guard, picture, most) forging_behind(key, guard, picture, message, most)
+        is_forging_behind(key, guard, picture, message, most, thing) two_forgeries(key, guard, picture, most)
+        is_two_forgeries(key, guard, most, thing)""",
+    "holes": """word_read(key, guard, lost, word) read_paper(key, guard, lost, word)
+        is_read_paper(key, guard, lost, word, thing) told_product(key, guard, picture, lost, word)
+        words_read(key, guard, lost) digits_read(key, guard, lost) message_read(key, guard, picture, lost)
+        messages_left(key, guard, picture, lost) hole_forging(key, guard, lost, word)
+        is_hole_forging(key, guard, lost, word, thing) two_alike(key, guard, picture, lost, word)
+        is_two_alike(key, guard, lost, word, thing) may_lose(key, guard, lost) lot_map(key, guard, lost)
+        is_lot_map(key, guard, lost, thing) may_lose_any(key, guard, many) most_lost(key, guard)
+        greatest_lots(key, guard)""",
 }
 
 # In this order a file draws from those ahead of it alone; plain is private.

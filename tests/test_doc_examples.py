@@ -7,6 +7,7 @@ import unittest
 from tests import checks, interface
 
 TEXT = pathlib.Path(__file__).resolve().parent / "doc_examples.txt"
+ERROR_VALUES = {name: values for name, _, values in interface.ERRORS}
 
 
 def examples():
@@ -23,7 +24,9 @@ def expected_of(told):
     if not told.startswith("raises "):
         return ast.literal_eval(told)
     call = ast.parse(told[len("raises "):], mode="eval").body
-    return checks.Raises(call.func.id, **{own.arg: ast.literal_eval(own.value) for own in call.keywords})
+    values = {own.arg: ast.literal_eval(own.value) for own in call.keywords}
+    values.update(zip(ERROR_VALUES[call.func.id], [ast.literal_eval(own) for own in call.args]))
+    return checks.Raises(call.func.id, **values)
 
 
 class DocExamplesTest(unittest.TestCase):
@@ -43,7 +46,7 @@ class DocExamplesTest(unittest.TestCase):
                 except (LookupError, ValueError) as error:
                     found = checks.raised(error)
                 self.assertTrue(checks.same(found, expected), f"{found!r} for {expected!r}")
-        self.assertEqual(count, 46)
+        self.assertEqual(count, 97)
 
 
 if __name__ == "__main__":

@@ -25,7 +25,10 @@ class InterfaceTest(unittest.TestCase):
 
     def test_as_many_functions_as_listed(self):
         counts = {file: text.count("(") for file, text in interface.LISTED.items()}
-        self.assertEqual(counts, {"digits": 22, "grids": 19, "pictures": 22, "prices": 17, "keys": 22, "reading": 16})
+        self.assertEqual(counts, {
+            "digits": 22, "grids": 19, "pictures": 22, "prices": 17, "keys": 22, "reading": 16, "hiding": 15,
+            "rooms": 14, "cheapest": 17, "most": 14, "anylots": 17, "guards": 17, "holes": 18,
+        })
         self.assertEqual(len(interface.listed()), sum(counts.values()))
 
     def test_errors_have_their_values_and_base_classes(self):
@@ -45,7 +48,7 @@ class InterfaceTest(unittest.TestCase):
         for file in interface.ORDER:
             for own in ast.walk(tree_of(file)):
                 self.assertNotIsInstance(own, ast.Import)
-                if isinstance(own, ast.ImportFrom):
+                if isinstance(own, ast.ImportFrom) and own.module != "math":
                     package, _, source = own.module.partition(".")
                     self.assertEqual((package, own.level), ("drycells", 0))
                     self.assertLess(interface.ORDER.index(source), interface.ORDER.index(file))
