@@ -122,11 +122,11 @@ def is_few_columns(key, row, thing):
 
 def far_paper(key, row):
     """A FAR PAPER for row and the number of columns that it needs; Unfit(), TooMany(); NoPaper() out of reach."""
-    needed = columns_needed(key, row)
-    if needed is None:
+    _check_row(key, row)
+    needs, aim = needs_of(key), tuple(row)
+    if aim not in needs:
         raise NoPaper()
-    needs = needs_of(key)
-    return tuple([tuple(sorted([own for own in needs if needs[own] <= most])) for most in range(needed)])
+    return tuple([tuple(sorted([own for own in needs if needs[own] <= most])) for most in range(needs[aim])])
 
 
 def is_far_paper(key, row, number, thing):
