@@ -238,13 +238,13 @@ def _least_rests(picture, prices, key, message):
 
 def may_touch(picture, prices, key, message):
     """The set of the CELLS that some way of least price has with another REST than their own."""
-    own = rests(picture, key[0])
     found = _least_rests(picture, prices, key, message)
+    own = rests(picture, key[0])
     return tuple([cell for cell, had in enumerate(found) if any(rest != own[cell] for rest in had)])
 
 
 def must_touch(picture, prices, key, message):
     """The set of the CELLS that each way of least price has with another REST than their own; () without one."""
-    own = rests(picture, key[0])
     found = _least_rests(picture, prices, key, message)
+    own = rests(picture, key[0])
     return tuple([cell for cell, had in enumerate(found) if had != [] and own[cell] not in had])

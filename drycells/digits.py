@@ -1,7 +1,7 @@
 """DIGITS of a PRIME, and ROWS of them."""
 
 from drycells.errors import TooMany, Unfit
-from drycells.plain import is_above_most, is_number, power
+from drycells.plain import is_above_most, is_number, many_in, power
 
 PRIMES = (2, 3, 5)
 
@@ -80,7 +80,7 @@ def row_product(p, one, other):
 
 
 def _check_lengths(one, other):
-    if len(one) != len(other):
+    if many_in(one) is None or many_in(one) != many_in(other):
         raise Unfit()
 
 

@@ -4,7 +4,7 @@ from drycells.digits import (
     all_rows, contrary_digit, is_row, led_row, row_less, row_product, row_times, sum_of_multiples, unit_row,
 )
 from drycells.errors import NoPaper, Unfit
-from drycells.plain import power
+from drycells.plain import many_in, power
 
 
 def is_grid(p, many, thing):
@@ -20,7 +20,7 @@ def is_stepped(p, many, thing):
 
 def _fitting_rows(many, rows):
     """The rows as tuples; Unfit() if one has not many DIGITS."""
-    if any(len(row) != many for row in rows):
+    if any(many_in(row) != many for row in rows):
         raise Unfit()
     return tuple([tuple(row) for row in rows])
 

@@ -4,7 +4,9 @@ from drycells.digits import all_rows, is_digit, row_less, sum_of_multiples, zero
 from drycells.errors import NoPaper, Unfit
 from drycells.keys import check_columns_and_primes, stacked
 from drycells.most import few_columns, needs_of
-from drycells.pictures import cells_in, is_picture, like_shape, picture_of, rests, shape_of, touched_cells
+from drycells.pictures import (
+    cells_in, check_like, is_picture, like_shape, picture_of, rests, shape_of, touched_cells,
+)
 from drycells.plain import is_number
 from drycells.prices import with_rests
 from drycells.reading import check_message, check_picture, reading
@@ -60,8 +62,7 @@ def forged_picture(picture, p, forging):
 
 def forging_between(one, other, p):
     """The FORGING from the RESTS of one to those of other; Unfit() if they are not like in shape."""
-    if not like_shape(one, other):
-        raise Unfit()
+    check_like(one, other)
     return _forging_of(row_less(p, rests(other, p), rests(one, p)))
 
 

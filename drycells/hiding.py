@@ -5,8 +5,9 @@ from drycells.errors import NoPaper, Unfit
 from drycells.grids import (
     bar_row, grid_rank, is_spanned, multiples_for, relations, span_count, spanned_rows, ways_count,
 )
-from drycells.keys import check_cells, check_small, is_word, marked_cells
+from drycells.keys import check_cells, check_small, columns_in, is_word, marked_cells
 from drycells.pictures import is_picture, like_shape, rests
+from drycells.plain import many_in
 from drycells.prices import barred_cells, barred_touched, check_prices, free_cells, with_rests
 from drycells.reading import check_message, check_picture, lack, reading, reading_of_rests
 
@@ -132,7 +133,7 @@ def moved_always(picture, prices, key, message):
 
 
 def _check_columns_priced(prices, key):
-    if len(prices) != len(key[2]):
+    if many_in(prices) is None or many_in(prices) != columns_in(key):
         raise Unfit()
 
 

@@ -6,21 +6,21 @@ from drycells.grids import bar_row, grid_rank, is_spanned, multiples_for, relati
 from drycells.guards import forged_picture, is_forging, is_guarded, least_false, sums_of
 from drycells.keys import check_columns_and_primes, is_lot, is_word, stacked
 from drycells.pictures import cells_in, is_picture, like_shape, picture_of, shape_of, touched_cells
-from drycells.plain import is_above_most, is_part, power
+from drycells.plain import as_tuple, is_above_most, is_part, power
 from drycells.reading import check_picture, part_reading, reading
 
 
 def _check_lost(key, guard, lost):
     """Unfit() if key and guard do not go together, or lost is no LOT of their CELLS."""
     check_columns_and_primes(key, guard)
-    if not is_lot(key, tuple(lost)):
+    if not is_lot(key, as_tuple(lost)):
         raise Unfit()
 
 
 def _check_task(key, guard, lost, word):
     """Unfit() as _check_lost, and if word is no WORD of key."""
     _check_lost(key, guard, lost)
-    if not is_word(key, tuple(word)):
+    if not is_word(key, as_tuple(word)):
         raise Unfit()
 
 

@@ -4,7 +4,7 @@ from drycells.digits import is_prime, is_row, row_product, sum_of_multiples
 from drycells.errors import NoCell, NoPaper, TooMany, Unfit
 from drycells.grids import bar_row, is_grid, is_spanned, multiples_for, turned_grid
 from drycells.pictures import cells_in, is_picture, like_shape, picture_of, rests
-from drycells.plain import in_tuples, is_above_most, is_number
+from drycells.plain import in_tuples, is_above_most, is_number, many_in
 
 # A PICTURE with this top has each REST of each PRIME.
 PAPER_TOP = 4
@@ -56,7 +56,7 @@ def check_small(key):
 def check_cells(key, lot):
     """NoCell(number) for the first of lot that is no CELL of key."""
     for cell in lot:
-        if not 0 <= cell < len(key[2]):
+        if not is_number(cell) or not 0 <= cell < len(key[2]):
             raise NoCell(cell)
 
 
@@ -96,8 +96,13 @@ def key_by_rows(p, size, rows):
     return (p, len(rows), turned_grid(p, size, rows))
 
 
+def columns_in(key):
+    """How many columns key has; None if it is no triple with columns."""
+    return many_in(key[2]) if many_in(key) == 3 else None
+
+
 def _check_columns(one, other):
-    if len(one[2]) != len(other[2]):
+    if columns_in(one) is None or columns_in(one) != columns_in(other):
         raise Unfit()
 
 

@@ -1,7 +1,7 @@
 """PICTURES: their CELLS, GREYS and RESTS, turned, cut out and laid over each other."""
 
 from drycells.errors import NoCell, Unfit
-from drycells.plain import is_number
+from drycells.plain import is_number, many_in
 
 LEAST_TOP = 4
 GREATEST_TOP = 255
@@ -30,6 +30,19 @@ def _is_grey(top, thing):
     return is_number(thing) and 0 <= thing <= top
 
 
+def is_laid_out(picture):
+    """Whether picture is at least a pair of something and rows: what has CELLS, as far as can be told at once."""
+    if many_in(picture) != 2 or many_in(picture[1]) in (None, 0):
+        return False
+    return all(many_in(row) is not None for row in picture[1])
+
+
+def check_like(one, other):
+    """Unfit() if one and other are not like in shape."""
+    if not is_laid_out(one) or not is_laid_out(other) or not like_shape(one, other):
+        raise Unfit()
+
+
 def shape_of(picture):
     """The triple (top, how many rows, how long these are)."""
     top, rows = picture
@@ -56,13 +69,13 @@ def picture_of(top, wide, tones):
     """The PICTURE with rows so long of which greys tells tones; Unfit() if there is none."""
     if not LEAST_TOP <= top <= GREATEST_TOP or wide < 1:
         raise Unfit()
-    if len(tones) == 0 or len(tones) % wide != 0 or not all(_is_grey(top, tone) for tone in tones):
+    if many_in(tones) in (None, 0) or len(tones) % wide != 0 or not all(_is_grey(top, tone) for tone in tones):
         raise Unfit()
     return (top, tuple([tuple(tones[cell:cell + wide]) for cell in range(0, len(tones), wide)]))
 
 
 def _check_cell(picture, cell):
-    if not 0 <= cell < cells_in(picture):
+    if not is_number(cell) or not 0 <= cell < cells_in(picture):
         raise NoCell(cell)
 
 
@@ -120,8 +133,7 @@ def _is_at_edge(picture, cell):
 
 def touched_cells(one, other):
     """The set of the CELLS touched from one to other; Unfit() if they are not like in shape."""
-    if not like_shape(one, other):
-        raise Unfit()
+    check_like(one, other)
     pairs = list(zip(greys(one), greys(other)))
     return tuple([cell for cell, (old, new) in enumerate(pairs) if old != new])
 

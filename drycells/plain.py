@@ -8,6 +8,16 @@ def is_number(thing):
     return isinstance(thing, int) and not isinstance(thing, bool)
 
 
+def as_tuple(value):
+    """The value with a tuple for a list; any other value as it is, for a check behind this to tell."""
+    return tuple(value) if isinstance(value, list) else value
+
+
+def many_in(value):
+    """How many things are in a tuple or list; None for any other value, which is as many as nothing."""
+    return len(value) if isinstance(value, (tuple, list)) else None
+
+
 def in_tuples(value):
     """The value with a tuple for each list, at any depth."""
     if isinstance(value, (list, tuple)):

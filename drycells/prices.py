@@ -2,8 +2,10 @@
 
 from drycells.digits import is_row
 from drycells.errors import Unfit
-from drycells.pictures import cells_in, grey_at, greys, neighbours, picture_of, rests, shape_of, touched_cells
-from drycells.plain import is_number
+from drycells.pictures import (
+    cells_in, grey_at, greys, is_laid_out, neighbours, picture_of, rests, shape_of, touched_cells,
+)
+from drycells.plain import as_tuple, is_number, many_in
 
 
 def is_prices(picture, thing):
@@ -17,7 +19,7 @@ def _is_price(thing):
 
 def check_prices(picture, prices):
     """Unfit() if prices are not as many as the CELLS of picture."""
-    if len(prices) != cells_in(picture):
+    if not is_laid_out(picture) or many_in(prices) != cells_in(picture):
         raise Unfit()
 
 
@@ -65,7 +67,7 @@ def barred_cells(prices):
 
 def both_prices(one, other):
     """Barred what one of both bars, else both weights added; Unfit() if they are not as many."""
-    if len(one) != len(other):
+    if many_in(one) is None or many_in(one) != many_in(other):
         raise Unfit()
     return tuple([_both_prices_of(left, right) for left, right in zip(one, other)])
 
@@ -135,7 +137,7 @@ def with_rests(picture, p, digits):
 
 
 def _check_digits(picture, p, digits):
-    if len(digits) != cells_in(picture) or not is_row(p, tuple(digits)):
+    if many_in(digits) != cells_in(picture) or not is_row(p, as_tuple(digits)):
         raise Unfit()
 
 

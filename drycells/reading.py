@@ -5,20 +5,20 @@ from drycells.digits import (
 )
 from drycells.errors import Unfit
 from drycells.grids import bar_row, grid_rank, is_spanned, multiples_for
-from drycells.keys import check_cells, is_message, is_word
-from drycells.pictures import cells_in, rests
-from drycells.plain import power
+from drycells.keys import check_cells, columns_in, is_message, is_word
+from drycells.pictures import cells_in, is_laid_out, rests
+from drycells.plain import as_tuple, is_number, many_in, power
 
 
 def check_picture(picture, key):
     """Unfit() if picture has not as many CELLS as key has columns."""
-    if cells_in(picture) != len(key[2]):
+    if not is_laid_out(picture) or cells_in(picture) != columns_in(key):
         raise Unfit()
 
 
 def check_message(key, message):
     """Unfit() if message is none of key."""
-    if not is_message(key, tuple(message)):
+    if not is_message(key, as_tuple(message)):
         raise Unfit()
 
 
@@ -37,7 +37,7 @@ def lack(picture, key, message):
 def reading_of_rests(key, digits):
     """The READING of PICTURES with these RESTS; Unfit() if they are not a DIGIT of p for each column."""
     p, many, columns = key
-    if len(digits) != len(columns) or not is_row(p, tuple(digits)):
+    if many_in(digits) != len(columns) or not is_row(p, as_tuple(digits)):
         raise Unfit()
     return sum_of_multiples(p, many, columns, digits)
 
@@ -83,7 +83,7 @@ def read_cells(key):
 def digit_cells(key, place):
     """The LOT of the CELLS with a DIGIT that is not 0 at place; Unfit() if there is no such place."""
     _, many, columns = key
-    if not 0 <= place < many:
+    if not is_number(place) or not 0 <= place < many:
         raise Unfit()
     return tuple([cell for cell, column in enumerate(columns) if column[place] != 0])
 

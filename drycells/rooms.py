@@ -5,7 +5,7 @@ from drycells.errors import TooMany, Unfit
 from drycells.grids import ways_count
 from drycells.hiding import check_priced, check_task
 from drycells.keys import check_cells, key_rows
-from drycells.plain import is_above_most
+from drycells.plain import as_tuple, is_above_most, is_number
 from drycells.prices import cost_of_rests, rest_prices
 from drycells.reading import check_message, reading_of_rests
 
@@ -17,7 +17,7 @@ def check_rooms(key):
 
 
 def _check_place(key, place):
-    if not 0 <= place <= len(key[2]):
+    if not is_number(place) or not 0 <= place <= len(key[2]):
         raise Unfit()
 
 
@@ -143,7 +143,7 @@ def is_way(key, message, thing):
 
 def rooms_along(key, message, way):
     """The tuple of the n + 1 ROOMS through which way leads; Unfit(), TooMany() as is_way, Unfit() if it is none."""
-    if not is_way(key, message, tuple(way)):
+    if not is_way(key, message, as_tuple(way)):
         raise Unfit()
     along = [()]
     for cell, rest in enumerate(way):
