@@ -4,71 +4,89 @@ from drycells.errors import NoPaper
 from drycells.hiding import check_task, is_bar, is_hiding, word_against
 from drycells.keys import check_cells
 from drycells.pictures import rests
-from drycells.plain import is_number, power
+from drycells.plain import is_number
 from drycells.prices import cost, weighing, with_rests
-from drycells.rooms import check_rooms, rooms_at, steps_at, widths
+from drycells.rooms import check_rooms, priced_steps
 
 
-def _all_steps(picture, prices, key, message):
-    """The list with, for each CELL, the STEPS from its place; Unfit() if they do not fit, then TooMany()."""
-    return [steps_at(picture, prices, key, message, cell) for cell in range(len(key[2]))]
+def price_above(prices, p):
+    """A price that no way reaches: a CHEAPEST GREY differs by at most p - 1."""
+    return 1 + (p - 1) * sum([price for price in prices if price is not None])
 
 
-def _costs_to(steps):
-    """For each place a dict: for the ROOMS that STEPS lead to, the least price of these."""
-    found = [{(): 0}]
-    for there in steps:
-        ahead, behind = found[-1], {}
-        for room, _, led, price in there:
-            if room in ahead and (led not in behind or ahead[room] + price < behind[led]):
-                behind[led] = ahead[room] + price
-        found.append(behind)
+def costs_behind(there, ahead, size, above):
+    """The list of the least prices to each of size ROOMS behind the STEPS there, above where none lead."""
+    behind = [above] * size
+    for _, price, pairs in there:
+        for room, led in pairs:
+            total = ahead[room] + price
+            if total < behind[led]:
+                behind[led] = total
+    return behind
+
+
+def _costs_to(sizes, steps, above):
+    """For each place the list of the least prices of STEPS that lead to its ROOMS, above where none do."""
+    found = [[0]]
+    for there, size in zip(steps, sizes[1:]):
+        found.append(costs_behind(there, found[-1], size, above))
     return found
 
 
-def _ways_from(steps):
-    """For each place a dict: for the ROOMS from which STEPS lead to the end, their (least, greatest price, number)."""
-    found = [{(): (0, 0, 1)}]
-    for there in reversed(steps):
-        behind, here = found[-1], {}
-        for room, _, led, price in there:
-            if led in behind:
-                least, most, many = behind[led]
-                old_least, old_most, old_many = here.get(room, (least + price, 0, 0))
-                here[room] = (min(old_least, least + price), max(old_most, most + price), old_many + many)
+def _costs_on(sizes, steps, above):
+    """For each place the list of the least prices of STEPS that lead on from its ROOMS to the end, likewise."""
+    found = [[0]]
+    for there, size in zip(steps[::-1], sizes[-2::-1]):
+        behind, here = found[-1], [above] * size
+        for _, price, pairs in there:
+            for room, led in pairs:
+                total = behind[led] + price
+                if total < here[room]:
+                    here[room] = total
         found.append(here)
     return found[::-1]
 
 
+def _planned(picture, prices, key, message):
+    """The triple (numbers of ROOMS, STEPS, a price that no way reaches); Unfit() if they do not fit, then TooMany()."""
+    sizes, steps = priced_steps(picture, prices, key, message)
+    return (sizes, steps, price_above(prices, key[0]))
+
+
+def as_slope(costs, above):
+    """The SLOPE of these costs, None for above."""
+    return tuple([tuple([None if cost_there == above else cost_there for cost_there in there]) for there in costs])
+
+
 def least_slope(picture, prices, key, message):
     """The SLOPE with, in each ROOM, the least price of STEPS that lead there, None if none do."""
-    found = _costs_to(_all_steps(picture, prices, key, message))
-    return tuple([tuple([costs.get(room) for room in rooms_at(key, place)]) for place, costs in enumerate(found)])
+    sizes, steps, above = _planned(picture, prices, key, message)
+    return as_slope(_costs_to(sizes, steps, above), above)
 
 
 def is_right_slope(picture, prices, key, message, thing):
     """Whether thing is a SLOPE that is right."""
-    steps = _all_steps(picture, prices, key, message)
-    if not _is_slope(key, thing) or thing[0] != (0,):
+    sizes, steps = priced_steps(picture, prices, key, message)
+    if not is_slope(sizes, thing) or thing[0] != (0,):
         return False
-    told = [dict(zip(rooms_at(key, place), heights)) for place, heights in enumerate(thing)]
-    return all(_is_right_there(there, told[cell], told[cell + 1]) for cell, there in enumerate(steps))
+    return all([_is_right_there(there, thing[cell], thing[cell + 1]) for cell, there in enumerate(steps)])
 
 
-def _is_slope(key, thing):
-    """Whether thing is a SLOPE of the places and ROOMS of key."""
-    if not isinstance(thing, tuple) or not all(isinstance(heights, tuple) for heights in thing):
+def is_slope(sizes, thing):
+    """Whether thing is a SLOPE with so many ROOMS at each place."""
+    if not isinstance(thing, tuple) or not all([isinstance(heights, tuple) for heights in thing]):
         return False
-    if [len(heights) for heights in thing] != [power(key[0], wide) for wide in widths(key)]:
+    if [len(heights) for heights in thing] != sizes:
         return False
-    return all(height is None or is_number(height) for heights in thing for height in heights)
+    return all([height is None or is_number(height) for heights in thing for height in heights])
 
 
 def _is_right_there(there, ahead, behind):
     """Whether no STEP leads from a ROOM with a number to one with None, or with more than the price above it."""
-    for room, _, led, price in there:
-        if ahead[room] is not None and (behind[led] is None or behind[led] > ahead[room] + price):
-            return False
+    for _, price, pairs in there:
+        for room, led in pairs:
+            if ahead[room] is not None and (behind[led] is None or behind[led] > ahead[room] + price):
+                return False
     return True
 
 
@@ -79,28 +97,50 @@ def end_of(slope):
 
 def least_cost(picture, prices, key, message):
     """The COST of the cheapest PICTURES that hide message; None if nothing hides it."""
-    return _costs_to(_all_steps(picture, prices, key, message))[-1].get(())
+    sizes, steps, above = _planned(picture, prices, key, message)
+    return _end_cost(sizes, steps, above)
+
+
+def _end_cost(sizes, steps, above):
+    """The least price of a way; None if there is none."""
+    costs = [0]
+    for there, size in zip(steps, sizes[1:]):
+        costs = costs_behind(there, costs, size, above)
+    return None if costs[0] == above else costs[0]
 
 
 def cheapest_way(picture, prices, key, message):
     """The least way of least price; NoPaper() if there is none."""
-    steps = _all_steps(picture, prices, key, message)
-    onward = _ways_from(steps)
-    if () not in onward[0]:
+    sizes, steps, above = _planned(picture, prices, key, message)
+    return _least_way(sizes, steps, above)
+
+
+def _least_way(sizes, steps, above):
+    """The least way of least price; NoPaper() if there is none."""
+    costs, choices = [0], []
+    for there, size in zip(steps[::-1], sizes[-2::-1]):
+        costs, choice = _choices_there(there, costs, size, above)
+        choices.append(choice)
+    if costs[0] == above:
         raise NoPaper()
-    room, way = (), []
-    for cell, there in enumerate(steps):
-        rest, room = _least_steps(there, room, onward[cell][room][0], onward[cell + 1])[0]
+    room, way = 0, []
+    for choice in choices[::-1]:
+        rest, room = choice[room]
         way.append(rest)
     return tuple(way)
 
 
-def _least_steps(there, room, least, behind):
-    """The list of the pairs (REST, ROOM behind) of the STEPS from room with which ways on of the price least begin."""
-    return [
-        (rest, led) for own, rest, led, price in there
-        if own == room and led in behind and behind[led][0] + price == least
-    ]
+def _choices_there(there, behind, size, above):
+    """The lists of the least prices on from each ROOM, and of the (REST, ROOM behind) with which that begins."""
+    costs, choice = [above] * size, [None] * size
+    # RESTS ascend: of several that are as good the least one stays.
+    for rest, price, pairs in there:
+        for room, led in pairs:
+            total = behind[led] + price
+            if total < costs[room]:
+                costs[room] = total
+                choice[room] = (rest, led)
+    return (costs, choice)
 
 
 def cheapest(picture, prices, key, message):
@@ -116,7 +156,9 @@ def is_cheapest(picture, prices, key, message, thing):
 
 def cheapest_paper(picture, prices, key, message):
     """The pair of the first cheapest PICTURE and the least SLOPE; NoPaper() if nothing hides message."""
-    return (cheapest(picture, prices, key, message), least_slope(picture, prices, key, message))
+    sizes, steps, above = _planned(picture, prices, key, message)
+    way = _least_way(sizes, steps, above)
+    return (with_rests(picture, key[0], way), as_slope(_costs_to(sizes, steps, above), above))
 
 
 def is_cheapest_paper(picture, prices, key, message, thing):
@@ -133,9 +175,12 @@ def is_cheapest_paper(picture, prices, key, message, thing):
 
 def case_of(picture, prices, key, message):
     """A CASE: a CHEAPEST PAPER behind "hidden", or a BAR behind "barred"."""
-    if least_cost(picture, prices, key, message) is None:
+    sizes, steps, above = _planned(picture, prices, key, message)
+    costs = _costs_to(sizes, steps, above)
+    if costs[-1][0] == above:
         return ("barred", word_against(picture, prices, key, message))
-    return ("hidden",) + cheapest_paper(picture, prices, key, message)
+    shown = with_rests(picture, key[0], _least_way(sizes, steps, above))
+    return ("hidden", shown, as_slope(costs, above))
 
 
 def is_case(picture, prices, key, message, thing):
@@ -151,18 +196,29 @@ def is_case(picture, prices, key, message, thing):
 
 def ways_within(picture, prices, key, message, most):
     """How many ways that keep prices have a price of at most most."""
-    steps = _all_steps(picture, prices, key, message)
-    return _count_within(steps, _ways_from(steps), most)
-
-
-def _count_within(steps, onward, most):
-    """How many ways have a price of at most most, told how they go on from each ROOM."""
-    held, total = {(): {0: 1}}, 0
+    sizes, steps, above = _planned(picture, prices, key, message)
+    onward = _ways_on(sizes, steps, above)
+    held, total = {0: {0: 1}}, 0
     for there, ways in zip(steps, onward):
         sure, open_counts = _parted(held, ways, most)
         total += sure
         held = _counts_behind(there, open_counts)
     return total + _parted(held, onward[-1], most)[0]
+
+
+def _ways_on(sizes, steps, above):
+    """For each place the list of the (least, greatest price, number) of the ways on from its ROOMS."""
+    found = [[(0, 0, 1)]]
+    for there, size in zip(steps[::-1], sizes[-2::-1]):
+        behind, here = found[-1], [(above, 0, 0)] * size
+        for _, price, pairs in there:
+            for room, led in pairs:
+                least, most, many = behind[led]
+                if many > 0:
+                    old_least, old_most, old_many = here[room]
+                    here[room] = (min(old_least, least + price), max(old_most, most + price), old_many + many)
+        found.append(here)
+    return found[::-1]
 
 
 def _parted(held, ways, most):
@@ -172,45 +228,73 @@ def _parted(held, ways, most):
     """
     sure, open_counts = 0, {}
     for room, counts in held.items():
-        if room in ways:
-            least, greatest, many = ways[room]
-            sure += many * sum([count for price, count in counts.items() if price + greatest <= most])
-            open_counts[room] = {
-                price: count for price, count in counts.items() if price + least <= most < price + greatest
-            }
+        least, greatest, many = ways[room]
+        sure += many * sum([count for price, count in counts.items() if price + greatest <= most])
+        left = {price: count for price, count in counts.items() if price + least <= most < price + greatest}
+        if left != {}:
+            open_counts[room] = left
     return (sure, open_counts)
 
 
 def _counts_behind(there, counts):
     """For each ROOM behind one more STEP, for each price how many beginnings have it."""
     behind = {}
-    for room, _, led, fee in there:
-        further = behind.setdefault(led, {})
-        for price, count in counts.get(room, {}).items():
-            further[price + fee] = further.get(price + fee, 0) + count
+    for _, fee, pairs in there:
+        for room, led in pairs:
+            if room in counts:
+                further = behind.setdefault(led, {})
+                for price, count in counts[room].items():
+                    further[price + fee] = further.get(price + fee, 0) + count
     return behind
 
 
 def how_many_cheapest(picture, prices, key, message):
     """How many ways have the least price; 0 if there is none."""
-    steps = _all_steps(picture, prices, key, message)
-    onward = _ways_from(steps)
-    if () not in onward[0]:
-        return 0
-    return _count_within(steps, onward, onward[0][()][0])
+    sizes, steps, above = _planned(picture, prices, key, message)
+    costs, counts = [0], [1]
+    for there, size in zip(steps, sizes[1:]):
+        costs, counts = _cheapest_behind(there, costs, counts, size, above)
+    return counts[0]
+
+
+def _cheapest_behind(there, ahead, many, size, above):
+    """The lists of the least prices to the ROOMS behind the STEPS there, and of how many beginnings have these."""
+    costs, counts = [above] * size, [0] * size
+    for _, price, pairs in there:
+        for room, led in pairs:
+            total = ahead[room] + price
+            if total < costs[led]:
+                costs[led] = total
+                counts[led] = many[room]
+            elif total == costs[led]:
+                counts[led] += many[room]
+    return (costs, counts)
 
 
 def next_cost(picture, prices, key, message):
     """The least price of a way that is above least_cost; None if there is none."""
-    held = {(): [0]}
-    for there in _all_steps(picture, prices, key, message):
-        behind = {}
-        for room, _, led, fee in there:
-            behind.setdefault(led, []).extend([price + fee for price in held.get(room, [])])
-        # What is dearer than two others to a ROOM stays so, however they go on.
-        held = {led: sorted(set(found))[:2] for led, found in behind.items()}
-    costs = held.get((), [])
-    return costs[1] if len(costs) == 2 else None
+    sizes, steps, above = _planned(picture, prices, key, message)
+    least, further = [0], [above]
+    for there, size in zip(steps, sizes[1:]):
+        least, further = _two_behind(there, least, further, size, above)
+    return None if further[0] == above else further[0]
+
+
+def _two_behind(there, least_ahead, next_ahead, size, above):
+    """The lists of the least prices, and of the next ones, to the ROOMS behind the STEPS there."""
+    # What is dearer than two others to a ROOM stays so, however they go on.
+    least, further = [above] * size, [above] * size
+    for _, price, pairs in there:
+        for room, led in pairs:
+            total = least_ahead[room] + price
+            if total < least[led]:
+                further[led] = min(least[led], next_ahead[room] + price)
+                least[led] = total
+            elif total > least[led]:
+                further[led] = min(further[led], total)
+            else:
+                further[led] = min(further[led], next_ahead[room] + price)
+    return (least, further)
 
 
 def cost_with(picture, prices, key, message, cell, weight):
@@ -223,24 +307,30 @@ def cost_with(picture, prices, key, message, cell, weight):
 
 def _least_rests(picture, prices, key, message):
     """For each CELL the list of the RESTS that it has in the ways of least price."""
-    steps = _all_steps(picture, prices, key, message)
-    to, onward = _costs_to(steps), _ways_from(steps)
-    least = to[-1].get(())
-    found = []
-    for cell, there in enumerate(steps):
-        ahead, behind = to[cell], onward[cell + 1]
-        found.append([
-            rest for room, rest, led, price in there
-            if room in ahead and led in behind and ahead[room] + price + behind[led][0] == least
-        ])
-    return found
+    sizes, steps, above = _planned(picture, prices, key, message)
+    to, onward = _costs_to(sizes, steps, above), _costs_on(sizes, steps, above)
+    least = to[-1][0]
+    if least == above:
+        return [[] for _ in steps]
+    return [
+        [rest for rest, price, pairs in there if _is_joined(to[cell], pairs, onward[cell + 1], least - price)]
+        for cell, there in enumerate(steps)
+    ]
+
+
+def _is_joined(ahead, pairs, behind, most):
+    """Whether some pair of ROOMS has ahead and behind just most added up."""
+    for room, led in pairs:
+        if ahead[room] + behind[led] == most:
+            return True
+    return False
 
 
 def may_touch(picture, prices, key, message):
     """The set of the CELLS that some way of least price has with another REST than their own."""
     found = _least_rests(picture, prices, key, message)
     own = rests(picture, key[0])
-    return tuple([cell for cell, had in enumerate(found) if any(rest != own[cell] for rest in had)])
+    return tuple([cell for cell, had in enumerate(found) if any([rest != own[cell] for rest in had])])
 
 
 def must_touch(picture, prices, key, message):

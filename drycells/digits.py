@@ -13,12 +13,12 @@ def is_prime(thing):
 
 def is_digit(p, thing):
     """Whether thing is a DIGIT of p."""
-    return is_number(thing) and 0 <= thing < p
+    return isinstance(thing, int) and not isinstance(thing, bool) and 0 <= thing < p
 
 
 def is_row(p, thing):
     """Whether thing is a ROW of p, of whatever length."""
-    return isinstance(thing, tuple) and all(is_digit(p, digit) for digit in thing)
+    return isinstance(thing, tuple) and all([is_digit(p, digit) for digit in thing])
 
 
 def digit_sum(p, digits):
@@ -76,7 +76,7 @@ def row_times(p, digit, row):
 def row_product(p, one, other):
     """The product of both ROWS, a DIGIT; Unfit() if they are not of one length."""
     _check_lengths(one, other)
-    return sum(left * right for left, right in zip(one, other)) % p
+    return sum([left * right for left, right in zip(one, other)]) % p
 
 
 def _check_lengths(one, other):
@@ -87,10 +87,10 @@ def _check_lengths(one, other):
 def sum_of_multiples(p, many, rows, digits):
     """The multiples of rows by digits, place by place, added; Unfit() if they do not go together."""
     _check_lengths(rows, digits)
-    total = zero_row(many)
-    for row, digit in zip(rows, digits):
-        total = row_sum(p, total, row_times(p, digit, row))
-    return total
+    if any([many_in(row) != many for row in rows]):
+        raise Unfit()
+    used = [(row, digit) for row, digit in zip(rows, digits) if digit != 0]
+    return tuple([sum([digit * row[place] for row, digit in used]) % p for place in range(many)])
 
 
 def marked_places(row):

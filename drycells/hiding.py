@@ -9,13 +9,14 @@ from drycells.keys import check_cells, check_small, columns_in, is_word, marked_
 from drycells.pictures import is_picture, like_shape, rests
 from drycells.plain import many_in
 from drycells.prices import barred_cells, barred_touched, check_prices, free_cells, with_rests
-from drycells.reading import check_message, check_picture, lack, reading, reading_of_rests
+from drycells.reading import check_message, lack, reading, reading_of_rests
 
 
 def check_priced(picture, prices, key):
     """Unfit() if prices or columns are not as many as CELLS."""
     check_prices(picture, prices)
-    check_picture(picture, key)
+    if columns_in(key) != len(prices):
+        raise Unfit()
 
 
 def check_task(picture, prices, key, message):

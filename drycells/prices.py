@@ -104,36 +104,48 @@ def greys_for(picture, p, rest):
 
 def cheapest_grey(picture, cell, p, rest):
     """The CHEAPEST GREY of cell for rest; NoCell(cell)."""
-    return _nearest(grey_at(picture, cell), greys_for(picture, p, rest))
+    return _nearest(picture[0], grey_at(picture, cell), p, rest)
 
 
-def _nearest(own, choice):
-    """The GREY of choice that differs least from own, of two such the lesser one."""
-    return min([(abs(own - grey), grey) for grey in choice])[1]
+def _nearest(top, own, p, rest):
+    """The GREY to top with this REST that differs least from own, of two such the lesser one."""
+    down = (own - rest) % p
+    low, high = own - down, own - down + p
+    if low < 0 or high <= top and high - own < down:
+        return high
+    return low
 
 
 def rest_prices(picture, prices, cell, p):
     """The COST of the CHEAPEST GREY for each REST, None if cell may not have it; Unfit(), then NoCell(cell)."""
     check_prices(picture, prices)
-    own = grey_at(picture, cell)
-    return tuple([_rest_price(picture, own, prices[cell], p, rest) for rest in range(p)])
+    fees = _fees_of(picture[0], grey_at(picture, cell), prices[cell], p)
+    told = dict(fees)
+    return tuple([told.get(rest) for rest in range(p)])
 
 
-def _rest_price(picture, own, price, p, rest):
-    """The COST of the CHEAPEST GREY for rest of a CELL with the GREY own and this price."""
-    if own % p == rest:
-        return 0
+def _fees_of(top, own, price, p):
+    """The list of the pairs (REST, COST of its CHEAPEST GREY) that a CELL with the GREY own may have."""
     if price is None:
-        return None
-    return price * abs(own - _nearest(own, greys_for(picture, p, rest)))
+        return [(own % p, 0)]
+    return [(rest, price * abs(own - _nearest(top, own, p, rest))) for rest in range(p)]
+
+
+def all_fees(picture, prices, p):
+    """The list with, for each CELL, the list of the pairs (REST, COST of its CHEAPEST GREY) that it may have."""
+    known, found = {}, []
+    for own, price in zip(greys(picture), prices):
+        if (own, price) not in known:
+            known[(own, price)] = _fees_of(picture[0], own, price, p)
+        found.append(known[(own, price)])
+    return found
 
 
 def with_rests(picture, p, digits):
     """The PICTURE with the CHEAPEST GREY of each CELL for its DIGIT; Unfit() if digits do not fit."""
     _check_digits(picture, p, digits)
     top, _, wide = shape_of(picture)
-    choices = [greys_for(picture, p, rest) for rest in range(p)]
-    return picture_of(top, wide, [_nearest(own, choices[digit]) for own, digit in zip(greys(picture), digits)])
+    return picture_of(top, wide, [_nearest(top, own, p, digit) for own, digit in zip(greys(picture), digits)])
 
 
 def _check_digits(picture, p, digits):
