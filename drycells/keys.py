@@ -47,6 +47,14 @@ def is_lot(key, thing):
     return thing == tuple(sorted(set(thing)))
 
 
+def fitting_key(key):
+    """The key, made of tuples; Unfit() if it is none."""
+    own = in_tuples(key)
+    if not is_key(own):
+        raise Unfit()
+    return own
+
+
 def check_small(key):
     """TooMany() if key is not small: if there are more than 729 MESSAGES of it."""
     if is_above_most(key[0], key[1]):

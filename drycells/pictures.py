@@ -14,7 +14,7 @@ def is_picture(thing):
     top, rows = thing
     if not is_number(top) or not LEAST_TOP <= top <= GREATEST_TOP or not _are_even_rows(rows):
         return False
-    return all(_is_grey(top, grey) for row in rows for grey in row)
+    return all(is_grey(top, grey) for row in rows for grey in row)
 
 
 def _are_even_rows(thing):
@@ -26,7 +26,8 @@ def _are_even_rows(thing):
     return all(len(row) == len(thing[0]) for row in thing)
 
 
-def _is_grey(top, thing):
+def is_grey(top, thing):
+    """Whether thing is a GREY of PICTURES with this top."""
     return is_number(thing) and 0 <= thing <= top
 
 
@@ -69,7 +70,7 @@ def picture_of(top, wide, tones):
     """The PICTURE with rows so long of which greys tells tones; Unfit() if there is none."""
     if not LEAST_TOP <= top <= GREATEST_TOP or wide < 1:
         raise Unfit()
-    if many_in(tones) in (None, 0) or len(tones) % wide != 0 or not all(_is_grey(top, tone) for tone in tones):
+    if many_in(tones) in (None, 0) or len(tones) % wide != 0 or not all(is_grey(top, tone) for tone in tones):
         raise Unfit()
     return (top, tuple([tuple(tones[cell:cell + wide]) for cell in range(0, len(tones), wide)]))
 

@@ -20,9 +20,9 @@ def many_in(value):
 
 def in_tuples(value):
     """The value with a tuple for each list, at any depth."""
-    if isinstance(value, (list, tuple)):
-        return tuple([in_tuples(part) for part in value])
-    return value
+    if not isinstance(value, (list, tuple)):
+        return value
+    return tuple([in_tuples(part) if isinstance(part, (list, tuple)) else part for part in value])
 
 
 def power(base, times):

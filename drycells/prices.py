@@ -10,10 +10,11 @@ from drycells.plain import as_tuple, is_number, many_in
 
 def is_prices(picture, thing):
     """Whether thing is PRICES for picture."""
-    return isinstance(thing, tuple) and len(thing) == cells_in(picture) and all(_is_price(price) for price in thing)
+    return isinstance(thing, tuple) and len(thing) == cells_in(picture) and all(is_price(price) for price in thing)
 
 
-def _is_price(thing):
+def is_price(thing):
+    """Whether thing is what PRICES have for a CELL: None, or a weight."""
     return thing is None or is_number(thing) and thing >= 0
 
 

@@ -189,6 +189,22 @@ def steps_by_words(picture, prices, key, message):
     return found
 
 
+def slope_by_words(task):
+    """For each ROOM the least price of all beginnings of ways that lead there, each one tried."""
+    key, size = task[2], len(task[1])
+    steps = steps_by_words(*task)
+    found = [{(): 0}]
+    beginnings = [((), 0)]
+    for cell in range(size):
+        beginnings = [(led, cost + price) for room, cost in beginnings
+                      for own, _, led, price in steps[cell] if own == room]
+        found.append({room: min(cost for own, cost in beginnings if own == room) for room, _ in beginnings})
+    return tuple(
+        tuple(costs.get(room) for room in rows_of(key[0], len(open_by_words(key, place))))
+        for place, costs in enumerate(found)
+    )
+
+
 def weight_of(digits):
     """How many DIGITS are not 0."""
     return sum(digit != 0 for digit in digits)

@@ -92,6 +92,28 @@ LISTED = {
         is_two_alike(key, guard, lost, word, thing) may_lose(key, guard, lost) lot_map(key, guard, lost)
         is_lot_map(key, guard, lost, thing) may_lose_any(key, guard, many) most_lost(key, guard)
         greatest_lots(key, guard)""",
+    "several": """readings(picture, keys) kept_readings(picture, other, keys) can_all(picture, prices, keys, messages)
+        hide_all(picture, prices, keys, messages) clash(picture, prices, keys, messages)
+        is_clash(picture, prices, keys, messages, thing) least_clash(picture, prices, keys, messages)
+        binding(keys, lot) is_binding(keys, lot, thing) always_all(keys, lot) always_quiet(keys, lot, number)
+        loud_binding(keys, lot, number) hide_quietly(picture, prices, keys, number, message)
+        disturbed(picture, prices, keys, number, message) cover_key(picture, key, message)
+        is_cover_key(picture, key, message, thing)""",
+    "watchers": """fits_pairs(p, pairs, key) some_key(p, pairs) how_many_keys(p, pairs) odd_row(p, pairs)
+        is_odd_row(p, pairs, thing) needless_pairs(p, pairs) is_told(p, pairs, picture)
+        told_message(p, pairs, picture) telling(p, pairs, picture) is_telling(p, pairs, picture, thing)
+        two_keys(p, pairs, picture) is_two_keys(p, pairs, picture, thing)
+        keys_that_read(p, pairs, picture, message) told_apart(p, pairs, near, far) columns_told(p, pairs)
+        column_told(p, pairs, cell) least_pairs(p, pairs, picture) cells_to_ask(p, pairs)""",
+    "retouched": """is_task(thing) is_edit(task, thing) edited(task, edit) edited_by(task, edits) edit_back(task, edit)
+        way_back(task, edits) last_kept(task, edit) regrown(task, slope, place) stage_of(task) is_stage(thing)
+        next_stage(stage, edit) stages_by(stage, edits) stage_picture(stage) followed(task, shown, edit)
+        still_cheapest(task, shown, edit) anew_and_on(task, shown, edit) all_ends(picture, prices, key)""",
+    "letters": """text_digits(p, text) digits_text(p, row) is_sheet(p, thing) sheet_of(p, many, text)
+        sheet_text(p, sheet) sheet_faults(p, table) sheet_near(p, table) sheet_with(p, table, row)
+        rows_needed(p, many, signs) most_signs(p, many, rows) album_hidden(pictures, prices, key, text)
+        album_bar(pictures, prices, key, text) is_album_bar(pictures, prices, key, text, thing)
+        album_text(pictures, key) album_without(pictures, key, number)""",
 }
 
 # In this order a file draws from those ahead of it alone; plain is private.

@@ -71,22 +71,6 @@ def is_right_by_words(task, thing):
     return True
 
 
-def slope_by_words(task):
-    """For each ROOM the least price of all beginnings of ways that lead there, each one tried."""
-    key, size = task[2], len(task[1])
-    steps = brute.steps_by_words(*task)
-    found = [{(): 0}]
-    beginnings = [((), 0)]
-    for cell in range(size):
-        beginnings = [(led, cost + price) for room, cost in beginnings
-                      for own, _, led, price in steps[cell] if own == room]
-        found.append({room: min(cost for own, cost in beginnings if own == room) for room, _ in beginnings})
-    return tuple(
-        tuple(costs.get(room) for room in brute.rows_of(key[0], len(brute.open_by_words(key, place))))
-        for place, costs in enumerate(found)
-    )
-
-
 def shows_by_words(pair, near, far):
     """Whether pair is near or far, two cheapest PICTURES of TASK, with a right SLOPE."""
     shown, slope = pair
@@ -371,7 +355,7 @@ class GuaranteesTest(unittest.TestCase):
             for message in brute.rows_of(key[0], key[1])[::2]:
                 task = (picture, prices, key, message)
                 told = least_slope(*task)
-                self.assertEqual(told, slope_by_words(task))
+                self.assertEqual(told, brute.slope_by_words(task))
                 self.assertTrue(is_right_by_words(task, told))
                 self.assertIs(is_right_slope(*task, told), True)
                 self.assertEqual(end_of(told), least_cost(*task))

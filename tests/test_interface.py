@@ -28,6 +28,7 @@ class InterfaceTest(unittest.TestCase):
         self.assertEqual(counts, {
             "digits": 22, "grids": 19, "pictures": 22, "prices": 17, "keys": 22, "reading": 16, "hiding": 15,
             "rooms": 14, "cheapest": 17, "most": 14, "anylots": 17, "guards": 17, "holes": 18,
+            "several": 16, "watchers": 18, "retouched": 17, "letters": 15,
         })
         self.assertEqual(len(interface.listed()), sum(counts.values()))
 

@@ -14,7 +14,8 @@ TASK = (PICTURE, PRICES, KEY, MESSAGE)
 HELD = (KEY, GUARD, (1,), (1, 0))
 # Each name with its arguments, and the places of those that must be of a kind, else Unfit().
 UNFITTING = (
-    ("row_sum", (2, (1,), (0,)), (1, 2)), ("row_less", (2, (1,), (0,)), (1, 2)), ("row_product", (2, (1,), (0,)), (1, 2)),
+    ("row_sum", (2, (1,), (0,)), (1, 2)), ("row_less", (2, (1,), (0,)), (1, 2)),
+    ("row_product", (2, (1,), (0,)), (1, 2)),
     ("are_multiples", (2, (1,), (1,)), (1, 2)), ("is_spanned", (2, 1, ((1,),), (1,)), (3,)),
     ("multiples_for", (2, 1, ((1,),), (1,)), (3,)), ("bar_row", (2, 1, ((0,),), (1,)), (3,)),
     ("ways_count", (2, 1, ((1,),), (1,)), (3,)), ("stepped_grid", (2, 1, ((1,), (0,))), ()),
@@ -43,7 +44,8 @@ UNFITTING = (
     ("cheapest", TASK, (0, 1, 3)), ("cheapest_paper", TASK, (0, 1, 3)), ("case_of", TASK, (0, 1, 3)),
     ("ways_within", TASK + (3,), (0, 1, 3)), ("how_many_cheapest", TASK, (0, 1, 3)), ("next_cost", TASK, (0, 1, 3)),
     ("cost_with", TASK + (0, 1), (0, 1, 3)), ("may_touch", TASK, (0, 1, 3)), ("must_touch", TASK, (0, 1, 3)),
-    ("columns_needed", (KEY, MESSAGE), (1,)), ("few_columns", (KEY, MESSAGE), (1,)), ("far_paper", (KEY, MESSAGE), (1,)),
+    ("columns_needed", (KEY, MESSAGE), (1,)), ("few_columns", (KEY, MESSAGE), (1,)),
+    ("far_paper", (KEY, MESSAGE), (1,)),
     ("touches_needed", (PICTURE, KEY, MESSAGE), (0, 2)), ("touched_least", (PICTURE, KEY, MESSAGE), (0, 2)),
     ("worst_messages", (PICTURE, KEY), (0,)), ("left_messages", (PICTURE, KEY, ()), (0,)),
     ("is_guarded", (PICTURE, GUARD), (0, 1)), ("sums_of", (KEY, GUARD, ()), (0, 1)),
