@@ -25,7 +25,7 @@ def costs_behind(there, ahead, size, above):
     return behind
 
 
-def _costs_to(sizes, steps, above):
+def costs_to(sizes, steps, above):
     """For each place the list of the least prices of STEPS that lead to its ROOMS, above where none do."""
     found = [[0]]
     for there, size in zip(steps, sizes[1:]):
@@ -33,7 +33,7 @@ def _costs_to(sizes, steps, above):
     return found
 
 
-def _costs_on(sizes, steps, above):
+def costs_on(sizes, steps, above):
     """For each place the list of the least prices of STEPS that lead on from its ROOMS to the end, likewise."""
     found = [[0]]
     for there, size in zip(steps[::-1], sizes[-2::-1]):
@@ -61,7 +61,7 @@ def as_slope(costs, above):
 def least_slope(picture, prices, key, message):
     """The SLOPE with, in each ROOM, the least price of STEPS that lead there, None if none do."""
     sizes, steps, above = _planned(picture, prices, key, message)
-    return as_slope(_costs_to(sizes, steps, above), above)
+    return as_slope(costs_to(sizes, steps, above), above)
 
 
 def is_right_slope(picture, prices, key, message, thing):
@@ -158,7 +158,7 @@ def cheapest_paper(picture, prices, key, message):
     """The pair of the first cheapest PICTURE and the least SLOPE; NoPaper() if nothing hides message."""
     sizes, steps, above = _planned(picture, prices, key, message)
     way = _least_way(sizes, steps, above)
-    return (with_rests(picture, key[0], way), as_slope(_costs_to(sizes, steps, above), above))
+    return (with_rests(picture, key[0], way), as_slope(costs_to(sizes, steps, above), above))
 
 
 def is_cheapest_paper(picture, prices, key, message, thing):
@@ -176,7 +176,7 @@ def is_cheapest_paper(picture, prices, key, message, thing):
 def case_of(picture, prices, key, message):
     """A CASE: a CHEAPEST PAPER behind "hidden", or a BAR behind "barred"."""
     sizes, steps, above = _planned(picture, prices, key, message)
-    costs = _costs_to(sizes, steps, above)
+    costs = costs_to(sizes, steps, above)
     if costs[-1][0] == above:
         return ("barred", word_against(picture, prices, key, message))
     shown = with_rests(picture, key[0], _least_way(sizes, steps, above))
@@ -308,7 +308,7 @@ def cost_with(picture, prices, key, message, cell, weight):
 def _least_rests(picture, prices, key, message):
     """For each CELL the list of the RESTS that it has in the ways of least price."""
     sizes, steps, above = _planned(picture, prices, key, message)
-    to, onward = _costs_to(sizes, steps, above), _costs_on(sizes, steps, above)
+    to, onward = costs_to(sizes, steps, above), costs_on(sizes, steps, above)
     least = to[-1][0]
     if least == above:
         return [[] for _ in steps]

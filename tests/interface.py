@@ -114,6 +114,20 @@ LISTED = {
         rows_needed(p, many, signs) most_signs(p, many, rows) album_hidden(pictures, prices, key, text)
         album_bar(pictures, prices, key, text) is_album_bar(pictures, prices, key, text, thing)
         album_text(pictures, key) album_without(pictures, key, number)""",
+    "before": """is_past(picture, prices, key, message, most, thing) past_counts(picture, prices, key, message, most)
+        how_many_pasts(picture, prices, key, message, most) fewest_touched(picture, prices, key, message)
+        past_at(picture, prices, key, message, most, number) past_number(picture, prices, key, message, most, past)
+        all_pasts(picture, prices, key, message, most) surely_touched(picture, prices, key, message, most)
+        surely_kept(picture, prices, key, message, most) touched_part(picture, prices, key, message, most, cell)
+        grey_counts(picture, prices, key, message, most, cell) message_counts(picture, prices, key, most)
+        likeliest(picture, prices, key, most)""",
+    "judge": """is_claim(thing) is_so(claim) paper(claim) is_paper(claim, thing) shows(claim, thing) not_so(claims)
+        words_so(claims)""",
+    "texts": """row_text(row) read_row(p, text) picture_text(picture) prices_text(prices) key_text(key)
+        slope_text(slope) case_text(case) read_picture(text) read_prices(text) read_key(text) read_slope(text)
+        read_case(p, text) touched_text(one, other) with_touched(picture, text)""",
+    "desk": """first_desk() is_request(thing) requests(text) scene_after(scene, request) said(scene, request)
+        worked(desk, request) session(desk, text)""",
 }
 
 # In this order a file draws from those ahead of it alone; plain is private.
@@ -123,7 +137,7 @@ ORDER = ("plain", "errors") + tuple(LISTED)
 def listed():
     """For each function of the interface the pair (its file, the names of its arguments)."""
     return {
-        name: (file, tuple(names.split(", ")))
+        name: (file, tuple(names.split(", ")) if names else ())
         for file, text in LISTED.items()
         for name, names in re.findall(r"(\w+)\(([^)]*)\)", text)
     }

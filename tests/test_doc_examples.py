@@ -46,7 +46,7 @@ class DocExamplesTest(unittest.TestCase):
                 except (LookupError, ValueError) as error:
                     found = checks.raised(error)
                 self.assertTrue(checks.same(found, expected), f"{found!r} for {expected!r}")
-        self.assertEqual(count, 116)
+        self.assertEqual(count, 145)
 
 
 if __name__ == "__main__":
