@@ -40,7 +40,8 @@ NO_EDITS = (
     ("weight", 0), ("weight", None, None), ("digit", 2, 0), ("digit", -1, 0), ("digit", 0, 2), ("digit", 0, -1),
     ("digit", 0, None), ("digit", None, 0), ("more", (0, 1), 0), ("more", (0,) * 7, 0), ("more", (2,) * 6, 0),
     ("more", (0,) * 6, 2), ("more", (0,) * 6), ("more", 3, 0), ("more", None, 0), ("more", (0,) * 6, None), ("less", 0),
-    ("less", ()), ("less", 0, 0), ("bold", 0, 0), "less", 9, None, (9, 0, 0), (None,), ("", 0, 0), (("less",),),
+    ("less", ()), ("less", 0, 0), ("bold", 0, 0), ("bold", (0,) * 6, 0), "less", 9, None, (9, 0, 0), (None,),
+    ("", 0, 0), (("less",),),
 )
 EDITS = (("grey", 3, 5), ("weight", 2, None), ("weight", 1, 0), CHANGE, WIDER, ("less",), ("more", (0,) * 6, 1))
 # Not hiding the MESSAGE of TASK.

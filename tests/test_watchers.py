@@ -202,6 +202,7 @@ class CallsTest(unittest.TestCase):
             ("column_told", (2, MORE, 2), (0, 1)), ("column_told", (2, MORE, 0), (1, 1)),
             ("column_told", (2, MORE, 1), (1, 0)),
             ("column_told", (2, CAUGHT, 0), NO_PAPER), ("column_told", (2, WRONG, 0), NO_PAPER),
+            ("column_told", (2, MORE + ((FIRST, (1, 1)),), 2), NO_PAPER),
             ("column_told", (2, WRONG, 3), no_cell(3)), ("column_told", (2, CAUGHT, -1), no_cell(-1)),
             ("column_told", (2, CAUGHT, None), no_cell(None)), ("column_told", (2, (), 3), UNFIT),
             ("columns_told", (5, FIVES), ()), ("columns_told", (5, FIVES[:1] + (((4, ((0, 3, 0),)), (1, 1)),)), (0, 1)),
